@@ -1,0 +1,1 @@
+"""Semirail: weighted automata over several semirings."""
