@@ -36,7 +36,8 @@ LEADINGS = [
 
 NO_LEADINGS = {
     ("truth",): [("some",), ("turned",), ("bit", 0), ("first",), ("rest", 2)],
-    ("count",): [("some", 1), ("some", ()), ["some"], "some", ("turned",), ("Some",), ("bit", 0)],
+    ("count",): [("some", 1), ("some", ()), ["some"], "some", ("turned",), ("Some",), ("bit", 0),
+                 ("unknowns", ("count",), (1,))],
     ("least",): [("turned", 1), ["turned"], ("some",), "turned"],
     ("most",): [("turned", None), ("some",)],
     ("narrow",): [("turned",), ("some",)],
@@ -45,7 +46,7 @@ NO_LEADINGS = {
     ("pair", ("count",), ("least",)): [("first", 1), ("second", 1), ("third",), ["first"], ("some",), ("turned",)],
     ("rest", 12): [("rest",), ("rest", 1), ("rest", 0), ("rest", 5), ("rest", 24), ("rest", -2), ("rest", True),
                    ("rest", "2"), ("rest", 2, 2), ["rest", 2], ("rest", None), ("first",)],
-    OR_AND: [("rest", 2), ("some",)],
+    OR_AND: [("rest", 2), ("some",), ("first",), ("second",), ("bit", 0), ("turned",)],
     ("terms", 2): [
         ("unknowns",), ("unknowns", ("count",)), ("unknowns", ("count",), (1,)), ("unknowns", ("count",), (1, 2, 3)),
         ("unknowns", ("count",), [1, 2]), ("unknowns", ("count",), (1, -2)), ("unknowns", ("count",), (1, True)),
@@ -57,7 +58,6 @@ NO_LEADINGS = {
         ("unknowns", ("pair", ("pair", ("pair", ("pair", ("truth",), ("truth",)), ("truth",)), ("truth",)), ("truth",)),
          (True, True)),
     ],
-    ("count", ): [("unknowns", ("count",), (1,))],
 }
 
 

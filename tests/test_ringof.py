@@ -15,6 +15,7 @@ NO_FORM = [
     ("lot",), ("lot", 0), ("lot", 13), ("lot", True), ("lot", "3"), ("lot", None), ("lot", 3, 3), ("lot", [3]),
     ["lot", 3], ("rest",), ("rest", 1), ("rest", 0), ("rest", -2), ("rest", 1001), ("rest", True), ("rest", 2, 2),
     ("terms",), ("terms", 0), ("terms", 5), ("terms", True), ("terms", "1"), ("terms", 10 ** 30),
+    ("lots", 3), ("pairs", ("truth",), ("count",)), ("tables", OR_AND[1], OR_AND[2]), ("truth", ("truth",), ("count",)),
     ("pair",), ("pair", ("truth",)), ("pair", ("truth",), ("truth",), ("truth",)), ("pair", "truth", "count"),
     ("pair", ("truth",), ["count"]), ["pair", ("truth",), ("count",)], ("pair", ("truth",), ("lot", 13)),
     ("pair", ("truth",), None), ("pair", (), ("truth",)), DEEP_FOUR, ("pair", ("truth",), DEEP_THREE),
