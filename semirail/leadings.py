@@ -117,9 +117,14 @@ def led_ring(ring, how):
     return ring_of(made)
 
 
+def led_all(goal, how, weights):
+    """The weights of the goal to which a leading takes some weights, all of which have been looked at."""
+    way = _WAYS[how[0]]
+    return [way(goal.kind(), how, weight) for weight in weights]
+
+
 def led(ring, how, weight):
     """The weight to which a leading takes a weight."""
     goal = led_ring(ring, how)
     ring.need(weight)
-    way = _WAYS[how[0]]
-    return way(goal.kind(), how, weight)
+    return led_all(goal, how, [weight])[0]

@@ -1,8 +1,6 @@
 """Distances in a web by rounds of sums from one state."""
 
-from semirail.errors import BadNumber
-from semirail.webs import need_web
-from semirail.words import is_whole
+from semirail.webs import need_state, need_web
 
 
 def by_rounds(ring, web, start):
@@ -13,9 +11,8 @@ def by_rounds(ring, web, start):
     those to which it leads.
     """
     need_web(ring, web)
+    need_state(web, start)
     states = web[0]
-    if not is_whole(start, 0, states - 1):
-        raise BadNumber("not a state of this web")
     kind = ring.kind()
     row = _begun(kind, web, start)
     for _ in range(states - 1):

@@ -1,6 +1,6 @@
 """Webs of closed rings, their paths, and their distances by taking out state by state."""
 
-from semirail.errors import BadPath, BadWeb, NotClosed
+from semirail.errors import BadNumber, BadPath, BadWeb, NotClosed
 from semirail.folds import product_of
 from semirail.rings import need_ring
 from semirail.words import is_whole
@@ -32,6 +32,12 @@ def _is_step(ring, states, step):
         return False
     i, j, weight = step
     return is_whole(i, 0, states - 1) and is_whole(j, 0, states - 1) and ring.good(weight)
+
+
+def need_state(web, thing):
+    """Refuse what is no state of a web."""
+    if not is_whole(thing, 0, web[0] - 1):
+        raise BadNumber("not a state of this web")
 
 
 def is_path(steps, path):

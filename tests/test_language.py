@@ -7,7 +7,8 @@ import pathlib
 import unittest
 
 import semirail
-from semirail import errors, leadings, limits, ringof, rings, rounds, webs, words
+from semirail import automata, best, dealings, errors, leadings, limits, operations, ringof, rings, rounds, showing
+from semirail import webs, words
 
 FOLDER = pathlib.Path(semirail.__file__).parent
 FILES = sorted(FOLDER.glob("*.py"))
@@ -122,6 +123,18 @@ class InterfaceTest(unittest.TestCase):
         leadings: ["led_ring(ring, how)", "led(ring, how, weight)"],
         webs: ["need_web(ring, web)", "path_weight(ring, web, path)", "by_states(ring, web)"],
         rounds: ["by_rounds(ring, web, start)"],
+        best: ["by_best(ring, web, start)"],
+        showing: ["why_endless(ring, web, i, j)", "paper(ring, web, start)", "check(ring, web, start, row, paper)"],
+        automata: ["need_automaton(thing, *, ring, alphabet)", "weight(automaton, word='', *, ring, alphabet)",
+                   "vector(automaton, word='', *, ring, alphabet)",
+                   "paths(automaton, word='', *, ring, alphabet, most=300)", "still(automaton, *, ring, alphabet)",
+                   "trim(automaton, *, ring, alphabet)"],
+        operations: ["added(one, other, *, ring, alphabet)", "scaled(factor, one, *, ring, alphabet)",
+                     "met(one, other, *, ring, alphabet)", "followed(one, other, *, ring, alphabet)",
+                     "repeated(one, *, ring, alphabet)"],
+        dealings: ["turned(one, *, ring, alphabet)", "shuffled(one, other, *, ring, alphabet)",
+                   "left(letter, one, *, ring, alphabet)", "renamed(one, letters, *, ring, alphabet)",
+                   "spelled(one, words, *, ring, alphabet)", "led_automaton(one, how, *, ring, alphabet)"],
     }
     METHODS = ["made(self)", "zero(self)", "one(self)", "is_closed(self)", "is_few(self)", "good(self, thing)",
                "plus(self, a, b)", "times(self, a, b)", "star(self, a)", "many(self, a, count=2)",
