@@ -15,8 +15,7 @@ def why_endless(ring, web, i, j):
     need_web(ring, web)
     need_state(web, i)
     need_state(web, j)
-    name = ring.made()[0]
-    if name not in _GROWING:
+    if ring.made()[0] not in _GROWING:
         raise NoOrder(None)
     kind = ring.kind()
     live = [number for number, step in enumerate(web[1]) if step[2] != kind.zero()]
@@ -26,12 +25,9 @@ def why_endless(ring, web, i, j):
     if told is not None:
         return told
     for state in range(web[0]):
-        if ways[i][state] is not None and ways[state][j] is not None:
-            turn = _any_round(web, ways, between, state)
-            if name in _SIGNED:
-                turn = _bettering_round(kind, web, between, state)
-            if turn is not None:
-                return ways[i][state], turn, ways[state][j]
+        turn = _round_at(kind, web, between, state)
+        if turn is not None:
+            return ways[i][state], turn, ways[state][j]
     return None
 
 
@@ -65,23 +61,14 @@ def _over_endless(web, ways, i, between, j):
     return None
 
 
-def _any_round(web, ways, between, state):
-    """A path from a state to itself that isn't empty, or None."""
-    for number in between:
-        i, j, _ = web[1][number]
-        if i == state and ways[j][state] is not None:
-            return (number,) + ways[j][state]
-    return None
-
-
-def _bettering_round(kind, web, between, state):
-    """A path from a state to itself that is better than the empty one, or None."""
+def _round_at(kind, web, between, state):
+    """A path from a state to itself whose weight and that of the empty one don't sum to the latter, or None."""
     best = _best_ways(kind, web, between, state, web[0])
     return best[state][1] if best[state][1] != () else None
 
 
 def _best_ways(kind, web, numbers, start, long):
-    """For each state the best weight of a path of at most so many steps, and the path, or None."""
+    """For each state a path of at most so many steps that none betters, and its weight; zero and None of none."""
     best = [(kind.zero(), None) for _ in range(web[0])]
     best[start] = (kind.one(), ())
     for _ in range(long):

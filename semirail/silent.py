@@ -7,6 +7,27 @@ many states with few silent steps are no great work.
 
 def plan_of(kind, steps):
     """How to sum over the silent steps (I, J, WEIGHT): for each state taken out what it leaves behind."""
+    inward, onward = _ways(kind, steps)
+    plan = []
+    while onward:
+        state = _cheapest(inward, onward, list(onward))
+        plan.append(_taken_out(kind, inward, onward, state))
+    return plan
+
+
+def way_past(kind, steps, first, last):
+    """The sum over all rows of steps (I, J, WEIGHT) from the first state to the last one, two of their own."""
+    inward, onward = _ways(kind, steps)
+    between = [state for state in onward if state not in (first, last)]
+    while between:
+        state = _cheapest(inward, onward, between)
+        between.remove(state)
+        _taken_out(kind, inward, onward, state)
+    return onward[first].get(last, kind.zero()) if first in onward else kind.zero()
+
+
+def _ways(kind, steps):
+    """The sums of the steps to each state, by those from which they come, and from each, by where they lead."""
     inward = {}
     onward = {}
     for i, j, weight in steps:
@@ -14,11 +35,7 @@ def plan_of(kind, steps):
             inward.setdefault(state, {})
             onward.setdefault(state, {})
         _add_way(kind, inward, onward, i, j, weight)
-    plan = []
-    while onward:
-        state = _cheapest(inward, onward)
-        plan.append(_taken_out(kind, inward, onward, state))
-    return plan
+    return inward, onward
 
 
 def _add_way(kind, inward, onward, i, j, weight):
@@ -28,9 +45,9 @@ def _add_way(kind, inward, onward, i, j, weight):
         inward[j][i] = told
 
 
-def _cheapest(inward, onward):
-    """The first state of those through which the fewest ways lead."""
-    return min(list(onward), key=lambda state: (len(inward[state]) * len(onward[state]), state))
+def _cheapest(inward, onward, states):
+    """The first one of some states through which the fewest ways lead."""
+    return min(states, key=lambda state: (len(inward[state]) * len(onward[state]), state))
 
 
 def _taken_out(kind, inward, onward, state):

@@ -7,8 +7,8 @@ import pathlib
 import unittest
 
 import semirail
-from semirail import automata, best, dealings, errors, leadings, limits, operations, ringof, rings, rounds, showing
-from semirail import webs, words
+from semirail import automata, back, best, dealings, errors, expressions, leadings, limits, operations, places, rests
+from semirail import ringof, rings, rounds, showing, webs, words
 
 FOLDER = pathlib.Path(semirail.__file__).parent
 FILES = sorted(FOLDER.glob("*.py"))
@@ -135,6 +135,11 @@ class InterfaceTest(unittest.TestCase):
         dealings: ["turned(one, *, ring, alphabet)", "shuffled(one, other, *, ring, alphabet)",
                    "left(letter, one, *, ring, alphabet)", "renamed(one, letters, *, ring, alphabet)",
                    "spelled(one, words, *, ring, alphabet)", "led_automaton(one, how, *, ring, alphabet)"],
+        expressions: ["need_expression(thing, *, ring, alphabet)", "is_plain(thing)",
+                      "by_cuts(expression, word='', *, ring, alphabet)"],
+        rests: ["rest(expression, letter, *, ring, alphabet)", "by_rests(expression, word='', *, ring, alphabet)"],
+        places: ["placed(expression, *, ring, alphabet)", "automaton_of(expression, *, ring, alphabet)"],
+        back: ["expression_of(automaton, *, ring, alphabet)"],
     }
     METHODS = ["made(self)", "zero(self)", "one(self)", "is_closed(self)", "is_few(self)", "good(self, thing)",
                "plus(self, a, b)", "times(self, a, b)", "star(self, a)", "many(self, a, count=2)",

@@ -204,6 +204,14 @@ class PaperTest(unittest.TestCase):
         self.assertIs(check(LEAST, (1, ((0, 0, 1),)), 0, [1], [(0,)]), False)
         self.assertIs(check(LEAST, (1, ((0, 0, 1),)), 0, [0], [(0,)]), False)
 
+    def test_check_of_a_path_from_elsewhere_or_to_elsewhere(self):
+        web = (3, ((0, 1, 2), (2, 1, 2), (0, 2, 7)))
+        self.assertIs(check(LEAST, web, 0, [0, 2, 7], [(), (0,), (2,)]), True)
+        self.assertIs(check(LEAST, web, 0, [0, 2, 7], [(), (1,), (2,)]), False)
+        web = (3, ((0, 1, 2), (0, 2, 2)))
+        self.assertIs(check(LEAST, web, 0, [0, 2, 2], [(), (0,), (1,)]), True)
+        self.assertIs(check(LEAST, web, 0, [0, 2, 2], [(), (1,), (1,)]), False)
+
     def test_check_of_zero_and_endless(self):
         narrow, truth = ring_of(("narrow",)), ring_of(("truth",))
         self.assertIs(check(narrow, (2, ((0, 1, "endless"),)), 0, ["endless", "endless"], [(), (0,)]), True)
