@@ -3,11 +3,6 @@
 from semirail.bare import add_to, ended, still_of, steps_of, trim_of
 
 
-def none_of():
-    """The automaton without states, which gives zero to all words."""
-    return 0, (), (), ()
-
-
 def added_of(one, other):
     """The sum of both."""
     shift = one[0]

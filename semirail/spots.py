@@ -78,4 +78,11 @@ class Spots:
         spots = range(1, len(self._letters) + 1)
         starts = (self._kind.one(),) + tuple([zero for _ in spots])
         ends = (empty,) + tuple([lasts.get(spot, zero) for spot in spots])
-        return len(starts), starts, ends, steps_of(self._kind, sums)
+        return len(starts), starts, ends, self._with_all(steps_of(self._kind, sums))
+
+    def _with_all(self, steps):
+        """The steps, and one of zero to each place to which none leads: each state tells its letter."""
+        reached = {step[2]: True for step in steps}
+        lone = [(0, letter, at + 1, self._kind.zero()) for at, letter in enumerate(self._letters)
+                if at + 1 not in reached]
+        return tuple(sorted([*steps, *lone]))

@@ -26,14 +26,19 @@ def size(expression):
     return many, deep
 
 
-def heads(expression):
-    """The first words of all parts."""
+def parts(expression):
+    """All parts of an expression."""
     told, waiting = [], [expression]
     while waiting:
         part = waiting.pop()
-        told.append(part[0])
+        told.append(part)
         waiting.extend(inner(part))
     return told
+
+
+def heads(expression):
+    """The first words of all parts."""
+    return [part[0] for part in parts(expression)]
 
 
 def random_expression(numbers, made, alphabet, parts, words=tuple(ONES + TWOS), weights=None):
@@ -104,13 +109,8 @@ class Sums:
 
 def lacks_star(ring, expression):
     """Whether a star in it isn't there, wherever it stands."""
-    sums, waiting = Sums(ring), [expression]
-    while waiting:
-        part = waiting.pop()
-        if part[0] == "repeated" and refusal(sums.of, part, "")[0] == "NoStar":
-            return True
-        waiting.extend(inner(part))
-    return False
+    sums = Sums(ring)
+    return any(part[0] == "repeated" and refusal(sums.of, part, "")[0] == "NoStar" for part in parts(expression))
 
 
 def otherwise(expression, alphabet):

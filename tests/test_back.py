@@ -10,7 +10,7 @@ from semirail.places import automaton_of
 from semirail.rests import by_rests
 from semirail.ringof import ring_of
 from tests.automata import KINDS, random_automaton, samples, table_weight, words_up_to
-from tests.expressions import lacks_star, random_expression
+from tests.expressions import lacks_star, random_expression, size
 from tests.samples import MADE, ODD, Numbers, Stranger, closed, refusal, weights_of
 from tests.test_automata import NO_AUTOMATA, NONE, SOME
 from tests.test_expressions import AB, COUNT
@@ -67,6 +67,15 @@ class ExpressionOfTest(unittest.TestCase):
         self.look(COUNT, (2, (0, 0), (1, 1), ((0, "a", 1, 1), (1, "b", 0, 1))), 2)
         self.look(COUNT, (2, (1, 1), (1, 1), ((0, "a", 1, 0), (1, "b", 0, 0))), 2)
         self.assertEqual(expression_of(automaton=SOME, alphabet="ab", ring=COUNT), expression_of(SOME, **AB))
+
+    def test_small_automata_have_small_expressions(self):
+        self.assertEqual(size(expression_of(NONE, **AB)), (1, 1))
+        chain = (6, (1,) + (0,) * 5, (0,) * 5 + (1,), tuple((k, "a", k + 1, 1) for k in range(5)))
+        self.assertLessEqual(size(expression_of(chain, **AB))[0], 9)
+        turning = (6, (2,) + (0,) * 5, (0,) * 5 + (3,), tuple((k, "a", (k + 1) % 6, 1) for k in range(6)))
+        self.assertLessEqual(size(expression_of(turning, **AB))[0], 40)
+        idle = (3, (1, 1, 1), (1, 0, 1), ((0, "a", 1, 1), (1, "b", 1, 1), (2, "a", 1, 1)))
+        self.assertLessEqual(size(expression_of(idle, **AB))[0], 5)
 
     def test_there_and_back_again(self):
         numbers = Numbers(93)

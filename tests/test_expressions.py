@@ -115,6 +115,11 @@ class IsPlainTest(unittest.TestCase):
                 self.assertIs(is_plain(expression), not OTHERS & set(heads(expression)))
                 self.assertIs(is_plain(plain_expression(numbers, made, "ab", parts)), True)
 
+    def test_what_is_none(self):
+        for thing in ODD + [("name", "a"), ("one", A), ("letter",), ("added", A), ("scaled", A), [A]]:
+            self.assertIs(is_plain(thing), False)
+            self.assertIs(is_plain(("repeated", ("followed", A, thing))), False)
+
 
 class ByCutsTest(unittest.TestCase):
     def same(self, ring, expression, long):

@@ -8,7 +8,7 @@ from semirail.operations import followed, met, repeated
 from semirail.places import automaton_of, placed
 from semirail.ringof import ring_of
 from tests.automata import KINDS, good_automaton, summed_cuts, words_up_to
-from tests.expressions import Sums, heads, lacks_star, plain_expression, random_expression, size
+from tests.expressions import Sums, heads, lacks_star, parts, plain_expression, random_expression, size
 from tests.samples import MADE, Numbers, refusal
 from tests.test_expressions import A, AB, B, COUNT, EACH
 
@@ -24,8 +24,10 @@ class PlacedTest(unittest.TestCase):
         self.assertEqual(repr(starts), repr((ring.one(),) + (ring.zero(),) * (states - 1)))
         self.assertEqual(repr(ends[0]), repr(by_cuts(expression, **more)))
         self.assertFalse(any(letter == "" or j == 0 for _, letter, j, _ in steps))
-        for state in range(1, states):
-            self.assertLessEqual(len({letter for _, letter, j, _ in steps if j == state}), 1)
+        letters = [part[1] for part in parts(expression) if part[0] == "letter"]
+        told_letters = [{letter for _, letter, j, _ in steps if j == state} for state in range(1, states)]
+        self.assertTrue(all(len(found) == 1 for found in told_letters), told)
+        self.assertEqual(sorted(letters), sorted(found.pop() for found in told_letters))
         for word in words:
             self.assertEqual(repr(weight(told, word, **more)), repr(by_cuts(expression, word, **more)))
         self.assertEqual(told, placed(expression, **more))
@@ -51,7 +53,9 @@ class PlacedTest(unittest.TestCase):
         self.assertEqual(placed(expression=A, alphabet="ab", ring=COUNT), (2, (1, 0), (0, 1), ((0, "a", 1, 1),)))
         star = placed(("repeated", ("scaled", 3, A)), **AB)
         self.assertEqual(star, (2, (1, 0), (1, 1), ((0, "a", 1, 3), (1, "a", 1, 3))))
-        self.assertEqual(placed(("scaled", 0, ("followed", A, B)), **AB)[0], 3)
+        # A letter to which nothing leads has its state, too, and a step that tells it.
+        self.assertEqual(placed(("scaled", 0, A), **AB), (2, (1, 0), (0, 1), ((0, "a", 1, 0),)))
+        self.assertEqual(placed(("followed", ("zero",), A), **AB), (2, (1, 0), (0, 1), ((0, "a", 1, 0),)))
         self.assertEqual(weight(placed(("repeated", ("repeated", A)), **AB), "a", **AB), "endless")
 
     def test_large_and_deep_ones(self):

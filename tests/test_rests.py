@@ -133,6 +133,25 @@ class RestTest(unittest.TestCase):
             self.assertLessEqual(size(told)[1], size(deep)[1] + 10)
         self.assertEqual(by_cuts(told, "a", **AB), by_cuts(deep, "ababa", **AB))
 
+    def test_they_stay_small(self):
+        # What is zero, or one beside another, isn't kept, nor is the same kept twice: however many letters come.
+        pair, more = ("followed", A, ("repeated", B)), ("added", ("scaled", 2, A), ("followed", A, B))
+        for expression in [("repeated", pair), ("repeated", more), ("followed", ("repeated", more), ("repeated", pair)),
+                           ("shuffled", pair, ("added", A, B)), ("met", ("repeated", more), ("repeated", pair)),
+                           ("followed", ("scaled", 2, ("one",)), ("repeated", ("added", A, B))),
+                           ("repeated", ("followed", ("added", A, B), ("scaled", 3, ("one",))))]:
+            for word in ("abababab", "aaaabbbb", "abbbbbbb", "bbbbbbbb"):
+                told = expression
+                for letter in word:
+                    told = rest(told, letter, **AB)
+                    self.assertLessEqual(size(told)[0], 5 * size(expression)[0], (expression, told))
+        for expression, letter, wanted in [
+                (A, "a", ("one",)), (A, "b", ("zero",)), (("followed", A, B), "a", B), (("repeated", A), "b", ("zero",)),
+                (("followed", A, ("one",)), "a", ("one",)), (("added", A, A), "b", ("zero",)),
+                (("met", A, B), "a", ("zero",)), (("shuffled", A, B), "a", B), (("shuffled", B, A), "a", B),
+                (("scaled", 0, A), "a", ("zero",)), (("scaled", 1, A), "a", ("one",))]:
+            self.assertEqual(rest(expression, letter, **AB), wanted)
+
     def test_no_letters(self):
         for thing in ["", "c", "ab", "A", None, 1, ["a"], ("a",), b"a", True, Stranger(), " ", "aa"]:
             self.assertEqual(refusal(rest, A, thing, **AB)[0], "BadWord", thing)
