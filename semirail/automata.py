@@ -15,6 +15,11 @@ def need_automaton(thing, *, ring, alphabet):
 
 
 def _is_automaton(ring, alphabet, thing):
+    return has_form(ring, thing, 3, lambda states, step: _is_step(ring, alphabet, states, step))
+
+
+def has_form(ring, thing, rising, is_step):
+    """Whether a thing has states, starts, ends, and steps that rise by so many of their parts, no two alike."""
     if not isinstance(thing, tuple) or len(thing) != 4:
         return False
     states, starts, ends, steps = thing
@@ -22,9 +27,9 @@ def _is_automaton(ring, alphabet, thing):
         return False
     if not _are_weights(ring, states, starts) or not _are_weights(ring, states, ends):
         return False
-    if not all([_is_step(ring, alphabet, states, step) for step in steps]):
+    if not all([is_step(states, step) for step in steps]):
         return False
-    return all([step[:3] < follower[:3] for step, follower in zip(steps, steps[1:])])
+    return all([step[:rising] < follower[:rising] for step, follower in zip(steps, steps[1:])])
 
 
 def _are_weights(ring, states, thing):

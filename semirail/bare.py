@@ -53,9 +53,12 @@ def add_to(kind, sums, key, weight):
 
 
 def steps_of(kind, sums):
-    """The rising tuple of steps of the weights that (I, LETTER, J) have; those of zero are left out."""
+    """The rising tuple of steps of the weights that (I, LETTER, J) have; those of zero are left out.
+
+    What stands between I and J may be anything: a letter, a word, or both.
+    """
     zero = kind.zero()
-    return tuple([(i, letter, j, weight) for (i, letter, j), weight in sorted(sums.items()) if weight != zero])
+    return tuple([(*key, weight) for key, weight in sorted(sums.items()) if weight != zero])
 
 
 def still_of(kind, automaton):
@@ -92,15 +95,15 @@ def _only(kind, states, state):
 
 
 def trim_of(kind, automaton):
-    """The automaton of just those states that lie between a start and an end."""
+    """The automaton, or transducer, of just those states that lie between a start and an end."""
     states, starts, ends, steps = automaton
     zero = kind.zero()
     onward = [[] for _ in range(states)]
     backward = [[] for _ in range(states)]
-    for i, _, j, weight in steps:
-        if weight != zero:
-            onward[i].append(j)
-            backward[j].append(i)
+    for step in steps:
+        if step[-1] != zero:
+            onward[step[0]].append(step[-2])
+            backward[step[-2]].append(step[0])
     after = _reached(onward, [state for state in range(states) if starts[state] != zero])
     before = _reached(backward, [state for state in range(states) if ends[state] != zero])
     return _only_of(automaton, [state for state in range(states) if after[state] and before[state]])
@@ -121,8 +124,8 @@ def _reached(ways, first):
 def _only_of(automaton, kept):
     """The automaton of some rising states, with all steps between them."""
     places = {state: place for place, state in enumerate(kept)}
-    steps = [(places[i], letter, places[j], weight) for i, letter, j, weight in automaton[3]
-             if i in places and j in places]
+    steps = [(places[step[0]], *step[1:-2], places[step[-2]], step[-1]) for step in automaton[3]
+             if step[0] in places and step[-2] in places]
     starts = tuple([automaton[1][state] for state in kept])
     ends = tuple([automaton[2][state] for state in kept])
     return len(kept), starts, ends, tuple(steps)

@@ -28,16 +28,16 @@ def renamed_of(kind, one, names):
 def spelled_of(kind, one, spellings):
     """The weight of each word when its letters are spelled by the words of a dict."""
     states, starts, ends, steps = trim_of(kind, still_of(kind, one))
-    ways = _ways_by_letters((states, starts, ends, steps))
+    ways = ways_by_letters((states, starts, ends, steps))
     sums = {}
     for letter, word in spellings.items():
         for state in range(states):
-            for j, weight in _row_behind(kind, ways, state, word).items():
+            for j, weight in row_behind(kind, ways, state, word).items():
                 add_to(kind, sums, (state, letter, j), weight)
     return trim_of(kind, (states, starts, ends, steps_of(kind, sums)))
 
 
-def _ways_by_letters(automaton):
+def ways_by_letters(automaton):
     """For each (I, LETTER) of a step a list of its (J, WEIGHT)."""
     told = {}
     for letter, steps in by_letters(automaton).items():
@@ -46,7 +46,7 @@ def _ways_by_letters(automaton):
     return told
 
 
-def _row_behind(kind, ways, state, word):
+def row_behind(kind, ways, state, word):
     """For the states to which a word leads from one state the sums over its paths."""
     row = {state: kind.one()}
     for letter in word:
