@@ -4,7 +4,7 @@ from semirail.cutting import weights_by_cuts
 from semirail.errors import BadExpression
 from semirail.needs import need_both, need_word
 from semirail.parts import form_of, inner_of, is_plain_head, numbered
-from semirail.words import is_letter
+from semirail.words import is_letter, is_name
 
 
 def need_expression(thing, *, ring, alphabet):
@@ -13,18 +13,20 @@ def need_expression(thing, *, ring, alphabet):
     waiting = [thing]
     while waiting:
         part = waiting.pop()
-        if not _is_part(ring, alphabet, part):
+        if not is_part(ring, alphabet, part, False):
             raise BadExpression("not an expression of this ring and alphabet")
         waiting.extend(inner_of(part))
 
 
-def _is_part(ring, alphabet, thing):
-    """Whether a thing is a part of an expression, but for the expressions in it."""
+def is_part(ring, alphabet, thing, named):
+    """Whether a thing is a part of an expression, but for those in it; a name is one where that is told."""
     form = form_of(thing)
     if form is None:
         return False
     if form[:1] == "l":
         return is_letter(thing[1]) and thing[1] in alphabet
+    if form[:1] == "n":
+        return named and is_name(thing[1])
     return form[:1] != "w" or ring.good(thing[1])
 
 

@@ -3,7 +3,7 @@
 Expressions may be a hundred deep, and those that rests tell a little deeper.
 """
 
-# What stands behind the first word of each: a letter, a weight, expressions.
+# What stands behind the first word of each: a letter, a weight, a name, expressions.
 _FORMS = {
     "zero": "",
     "one": "",
@@ -16,16 +16,22 @@ _FORMS = {
     "turned": "e",
     "shuffled": "ee",
     "left": "le",
+    "name": "n",
 }
 
 _PLAIN = ("zero", "one", "letter", "scaled", "added", "followed", "repeated")
 
 
+def head_form(head):
+    """What stands behind a first word, one sign for each: l, w, n or e; None of what is no first word."""
+    return _FORMS.get(head) if isinstance(head, str) else None
+
+
 def form_of(thing):
-    """What stands behind the first word of a part, one sign for each; None of what is no part."""
-    if not isinstance(thing, tuple) or len(thing) == 0 or not isinstance(thing[0], str):
+    """What stands behind the first word of a part; None of what is no part."""
+    if not isinstance(thing, tuple) or len(thing) == 0:
         return None
-    form = _FORMS.get(thing[0])
+    form = head_form(thing[0])
     return form if form is not None and len(form) + 1 == len(thing) else None
 
 
@@ -39,8 +45,8 @@ def inner_of(part):
     return [thing for thing, sign in zip(part[1:], _FORMS[part[0]]) if sign == "e"]
 
 
-def _worth_of(part):
-    """The letter or the weight that stands in a part, or None."""
+def worth_of(part):
+    """The letter, the weight or the name that stands in a part, or None."""
     return None if _FORMS[part[0]][:1] in ("", "e") else part[1]
 
 
@@ -67,7 +73,7 @@ def numbered(expression):
         many = len(inner_of(part))
         right = waiting.pop() if many == 2 else None
         left = waiting.pop() if many > 0 else None
-        row = (part[0], _worth_of(part), left, right)
+        row = (part[0], worth_of(part), left, right)
         if row not in places:
             places[row] = len(rows)
             rows.append(row)

@@ -7,8 +7,9 @@ import pathlib
 import unittest
 
 import semirail
-from semirail import automata, back, best, dealings, errors, expressions, leadings, limits, operations, places, rests
-from semirail import ringof, rings, rounds, showing, webs, words
+from semirail import automata, back, best, dealings, desk, errors, expressions, leadings, learner, limits, machines
+from semirail import normed, operations, papers, places, reading, rests, ringof, rings, room, rounds, showing, texts
+from semirail import transducers, webs, words
 
 FOLDER = pathlib.Path(semirail.__file__).parent
 FILES = sorted(FOLDER.glob("*.py"))
@@ -94,6 +95,34 @@ class LanguageTest(unittest.TestCase):
                 if isinstance(node, ast.Name) and node.id in vars(builtins):
                     self.assertIn(node.id, BUILTINS, path)
 
+    def test_no_variable_has_the_name_of_an_import_or_a_class(self):
+        for path, _, tree in trees():
+            barred = {name.name for node in tree.body if isinstance(node, ast.ImportFrom) for name in node.names}
+            barred |= {node.name for node in tree.body if isinstance(node, ast.ClassDef)}
+            for node in ast.walk(tree):
+                if isinstance(node, ast.arg) or isinstance(node, ast.Name) and isinstance(node.ctx, ast.Store):
+                    self.assertNotIn(node.arg if isinstance(node, ast.arg) else node.id, barred, path)
+                if isinstance(node, ast.ExceptHandler) and node.name is not None:
+                    self.assertNotIn(node.name, barred, path)
+
+    def test_no_two_files_import_from_each_other(self):
+        ways = {path.stem: [node.module[9:] for node in tree.body if isinstance(node, ast.ImportFrom)
+                            and node.module.startswith("semirail.")] for path, _, tree in trees()}
+        done = []
+        while len(done) < len(ways):
+            fit = [name for name, others in ways.items() if name not in done and all(other in done for other in others)]
+            self.assertNotEqual(fit, [], sorted(set(ways) - set(done)))
+            done += fit
+
+    def test_no_name_is_a_method_and_an_attribute_of_a_class(self):
+        for path, _, tree in trees():
+            for kind in [node for node in tree.body if isinstance(node, ast.ClassDef)]:
+                methods = [node.name for node in kind.body if isinstance(node, ast.FunctionDef)]
+                self.assertEqual(len(methods), len(set(methods)), (path, kind.name))
+                told = {node.attr for node in ast.walk(kind) if isinstance(node, ast.Attribute)
+                        and isinstance(node.ctx, ast.Store)}
+                self.assertEqual(told & set(methods), set(), (path, kind.name))
+
     def test_imports(self):
         for path, _, tree in trees():
             for node in ast.walk(tree):
@@ -140,11 +169,39 @@ class InterfaceTest(unittest.TestCase):
         rests: ["rest(expression, letter, *, ring, alphabet)", "by_rests(expression, word='', *, ring, alphabet)"],
         places: ["placed(expression, *, ring, alphabet)", "automaton_of(expression, *, ring, alphabet)"],
         back: ["expression_of(automaton, *, ring, alphabet)"],
+        transducers: ["need_transducer(thing, *, ring, alphabet)", "pair_weight(transducer, x, y, *, ring, alphabet)",
+                      "written_by(transducer, x, *, ring, alphabet, most=300)",
+                      "composed(one, other, *, ring, alphabet)", "sent(automaton, transducer, *, ring, alphabet)",
+                      "asked_back(transducer, automaton, *, ring, alphabet)"],
+        machines: ["machine_of(automaton, *, ring, alphabet, most=300)"],
+        papers: ["parted(one, other)", "alike_paper(one, other)", "check_alike(one, other, paper)", "apart(one)",
+                 "check_least(one, reached, rows)"],
+        normed: ["normed(automaton, *, alphabet, most=60)"],
+        room: ["room_of(rows, *, ring, alphabet)"],
+        texts: ["expression_text(expression, *, ring, alphabet)", "automaton_text(automaton, *, ring, alphabet)",
+                "room_text(room)"],
+        reading: ["expression_in(text, *, ring, alphabet)", "automaton_in(text, *, ring, alphabet)", "room_in(text)"],
     }
-    METHODS = ["made(self)", "zero(self)", "one(self)", "is_closed(self)", "is_few(self)", "good(self, thing)",
-               "plus(self, a, b)", "times(self, a, b)", "star(self, a)", "many(self, a, count=2)",
-               "power(self, a, count=2)", "total(self, weights)", "product(self, weights)", "written(self, a)",
-               "worth(self, word)"]
+    METHODS = {
+        rings.Ring: ["made(self)", "zero(self)", "one(self)", "is_closed(self)", "is_few(self)", "good(self, thing)",
+                     "plus(self, a, b)", "times(self, a, b)", "star(self, a)", "many(self, a, count=2)",
+                     "power(self, a, count=2)", "total(self, weights)", "product(self, weights)", "written(self, a)",
+                     "worth(self, word)", "__eq__(self, other)", "__str__(self)", "__repr__(self)"],
+        machines.Machine: ["__init__(self, ring, alphabet, ends, moves)", "ring(self)", "alphabet(self)", "ends(self)",
+                           "moves(self)", "run(self, word='')", "least(self)", "__len__(self)", "__eq__(self, other)",
+                           "__str__(self)"],
+    }
+    METHODS.update({
+        learner.Learner: ["__init__(self, ring, alphabet)", "ask(self)", "answer(self, thing)"],
+        room.Room: ["__init__(self, ring, alphabet)", "put(self, name, expression, *, anew=False)", "drop(self, name)",
+                    "together(self, deeds)", "undo(self)", "redo(self)", "names(self)", "expression(self, name)",
+                    "plainer(self, name)", "weight(self, name, word='')", "automaton(self, name)", "rests(self, name)",
+                    "least(self, name)", "alike(self, one, other)", "log(self)", "depth(self)", "ring(self)",
+                    "alphabet(self)", "twin(self)", "__eq__(self, other)", "__len__(self)", "__str__(self)"],
+        desk.Desk: ["__init__(self, text)", "say(self, line)"],
+    })
+    HOMES = {rings.Ring: "semirail.rings", machines.Machine: "semirail.machines", learner.Learner: "semirail.learner",
+             room.Room: "semirail.room", desk.Desk: "semirail.desk"}
 
     def test_functions_stand_in_their_files_as_told(self):
         for module, rows in self.WANTED.items():
@@ -153,13 +210,12 @@ class InterfaceTest(unittest.TestCase):
                 self.assertEqual(thing.__module__, module.__name__)
                 self.assertEqual(thing.__name__ + str(inspect.signature(thing)), row)
 
-    def test_methods_of_ring(self):
-        self.assertEqual(rings.Ring.__module__, "semirail.rings")
-        for row in self.METHODS:
-            thing = vars(rings.Ring)[row.split("(")[0]]
-            self.assertEqual(thing.__name__ + str(inspect.signature(thing)), row)
-        for name in ("__eq__", "__str__", "__repr__"):
-            self.assertIn(name, vars(rings.Ring))
+    def test_methods_of_classes(self):
+        self.assertEqual({kind: kind.__module__ for kind in self.METHODS}, self.HOMES)
+        for kind, rows in self.METHODS.items():
+            for row in rows:
+                thing = vars(kind)[row.split("(")[0]]
+                self.assertEqual(thing.__name__ + str(inspect.signature(thing)), row)
 
     def test_limits_and_errors_have_no_more(self):
         self.assertEqual({name for name in vars(limits) if not name.startswith("_")}, {"MOST", "DEEP", "LONG"})
