@@ -66,17 +66,19 @@ def still_of(kind, automaton):
     if not has_silent(automaton):
         return automaton
     states, starts, ends, steps = automaton
-    plan = plan_of(kind, [(i, j, weight) for i, letter, j, weight in steps if letter == ""])
+    silent = [(i, j, weight) for i, letter, j, weight in steps if letter == ""]
+    plan = plan_of(kind, silent)
+    begun = {i: True for i, _, _ in silent}
     loud = _steps_from(automaton)
     sums = {}
     told = []
     for state in range(states):
-        row = settled(kind, plan, _only(kind, states, state))
-        told.append(ended(kind, automaton, row))
-        for i, weight in enumerate(row):
-            if weight != kind.zero():
-                for letter, j, further in loud[i]:
-                    add_to(kind, sums, (state, letter, j), kind.times(weight, further))
+        # Most states may begin no silent step: their rows have but themselves.
+        row = _row_from(kind, plan, states, state) if state in begun else [(state, kind.one())]
+        told.append(total_of(kind, [kind.times(weight, ends[i]) for i, weight in row]))
+        for i, weight in row:
+            for letter, j, further in loud[i]:
+                add_to(kind, sums, (state, letter, j), kind.times(weight, further))
     return states, starts, tuple(told), steps_of(kind, sums)
 
 
@@ -89,9 +91,10 @@ def _steps_from(automaton):
     return told
 
 
-def _only(kind, states, state):
-    """The row of one at a state and zero at all others."""
-    return [kind.one() if at == state else kind.zero() for at in range(states)]
+def _row_from(kind, plan, states, state):
+    """The states to which silent steps lead from one, with the sums of their weights."""
+    row = settled(kind, plan, [kind.one() if at == state else kind.zero() for at in range(states)])
+    return [(i, weight) for i, weight in enumerate(row) if weight != kind.zero()]
 
 
 def trim_of(kind, automaton):

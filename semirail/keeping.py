@@ -90,9 +90,10 @@ class Keeping:
         waiting = list(inner)
         done = 0
         while done < len(waiting) and name not in ahead:
-            for other in self._entries[waiting[done]].inner():
+            user = waiting[done]
+            for other in self._entries[user].inner():
                 if other not in ahead:
-                    ahead[other] = waiting[done]
+                    ahead[other] = user
                     waiting.append(other)
             done += 1
         if name not in ahead:
@@ -131,7 +132,8 @@ def _reached(name, ways):
     found = {}
     waiting = [name]
     while waiting:
-        for other in ways.get(waiting.pop(), []):
+        latest = waiting.pop()
+        for other in ways.get(latest, []):
             if other not in found:
                 found[other] = True
                 waiting.append(other)

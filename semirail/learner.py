@@ -24,7 +24,8 @@ class Learner:
         """What is to be answered: ("weight", WORD) or ("like", Machine); ("done", Machine) at the end."""
         if self._wanted:
             return "weight", self._wanted[-1]
-        return "done" if self._done else "like", self._machine
+        what = "done" if self._done else "like"
+        return what, self._machine
 
     def answer(self, thing):
         """Take the answer to what is asked: a weight; True, or a word to which the machine doesn't give its own."""

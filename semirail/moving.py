@@ -31,7 +31,8 @@ def _reached(moves):
     order = [0]
     done = 0
     while done < len(order):
-        for state in moves[order[done]]:
+        latest = order[done]
+        for state in moves[latest]:
             if state not in found:
                 found[state] = True
                 order.append(state)

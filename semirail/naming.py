@@ -40,7 +40,8 @@ def rest_order(inner):
     order = [name for name, many in lacking.items() if many == 0]
     done = 0
     while done < len(order):
-        for user in users[order[done]]:
+        latest = order[done]
+        for user in users[latest]:
             lacking[user] -= 1
             if lacking[user] == 0:
                 order.append(user)

@@ -109,6 +109,9 @@ class CheckAlikeTest(unittest.TestCase):
         self.assertTrue(check_alike(one, one, [(0, 0), (2, 2), (1, 2)]))
         self.assertFalse(check_alike(one, one, [(0, 0), (1, 2)]))
         self.assertFalse(check_alike(one, one, [(0, 0), (0, 1), (0, 2)]))
+        # A number below 0 tells no state, though it would find one from behind.
+        for pair in [(-1, -1), (2, -1), (-1, 2)]:
+            self.assertFalse(check_alike(one, one, [(0, 0), (2, 2), pair]))
 
     def test_kinds_of_rings(self):
         numbers = Numbers(102)

@@ -382,6 +382,19 @@ class RefusalsTest(unittest.TestCase):
         self.assertEqual(room.weight("x", "a"), 1)
         self.assertEqual(room.weight("x", "ab"), 0)
 
+    def test_weights_where_no_automaton_is_promised(self):
+        # Eight words of four letters dealt together: an automaton of these would have far too many states.
+        whole = None
+        for letters in ("aabb", "abab", "abba", "baab", "baba", "bbaa", "aaaa", "bbbb"):
+            word = ("added", ONE, ("followed", ("letter", letters[0]), ("letter", letters[1])))
+            for letter in letters[2:]:
+                word = ("added", ("followed", word, ("letter", letter)), ("scaled", 3, ONE))
+            whole = word if whole is None else ("shuffled", whole, word)
+        room = room_with(x=whole, y=("name", "x"))
+        self.assertEqual(room.weight("y"), 3 ** 8)
+        for word in ("a", "ba", "aab"):
+            self.assertEqual(room.weight("y", word), by_cuts(whole, word, ring=COUNT, alphabet="ab"))
+
     def test_no_rooms(self):
         for thing in ODD + [("truth",)]:
             self.assertEqual(refusal(Room, thing, "ab"), ("BadRing", ("ring",)))
